@@ -5,6 +5,8 @@ import (
 	"reflect"
 	"slices"
 	"testing"
+
+	"loop.example/g01126/impl"
 )
 
 const sentinel = -987654321
@@ -33,6 +35,24 @@ func (g guard) isUnchanged() bool {
 	return slices.Equal(g.memory, g.before)
 }
 
+// pairGuard guards both lists of a pair.
+type pairGuard struct {
+	top    guard
+	bottom guard
+}
+
+func newPairGuard(m impl.Meander) pairGuard {
+	return pairGuard{newGuard(m.Top), newGuard(m.Bottom)}
+}
+
+func (g pairGuard) pair() impl.Meander {
+	return impl.Meander{Top: g.top.list, Bottom: g.bottom.list}
+}
+
+func (g pairGuard) isUnchanged() bool {
+	return g.top.isUnchanged() && g.bottom.isUnchanged()
+}
+
 // sameList holds nil and empty lists to be the same value, as the document does.
 func sameList(a, b []int) bool {
 	return slices.Equal(a, b)
@@ -42,39 +62,77 @@ func sameLists(a, b [][]int) bool {
 	return slices.EqualFunc(a, b, sameList)
 }
 
+// sameResult holds nil and empty lists to be the same value, wherever they are
+// in a result.
 func sameResult(a, b any) bool {
-	switch x := a.(type) {
-	case []int:
-		y, ok := b.([]int)
-		return ok && sameList(x, y)
-	case [][]int:
-		y, ok := b.([][]int)
-		return ok && sameLists(x, y)
+	return sameValue(reflect.ValueOf(a), reflect.ValueOf(b))
+}
+
+func sameValue(a, b reflect.Value) bool {
+	if a.Type() != b.Type() {
+		return false
 	}
-	return reflect.DeepEqual(a, b)
+	switch a.Kind() {
+	case reflect.Slice:
+		if a.Len() != b.Len() {
+			return false
+		}
+		for i := range a.Len() {
+			if !sameValue(a.Index(i), b.Index(i)) {
+				return false
+			}
+		}
+		return true
+	case reflect.Struct:
+		for i := range a.NumField() {
+			if !sameValue(a.Field(i), b.Field(i)) {
+				return false
+			}
+		}
+		return true
+	}
+	return a.Equal(b)
 }
 
 func isZeroResult(a any) bool {
-	v := reflect.ValueOf(a)
-	if v.Kind() == reflect.Slice {
+	return isZeroValue(reflect.ValueOf(a))
+}
+
+func isZeroValue(v reflect.Value) bool {
+	switch v.Kind() {
+	case reflect.Slice:
 		return v.Len() == 0
+	case reflect.Struct:
+		for i := range v.NumField() {
+			if !isZeroValue(v.Field(i)) {
+				return false
+			}
+		}
+		return true
 	}
 	return v.IsZero()
 }
 
 // copyResult returns a result that shares no memory with the given one.
 func copyResult(a any) any {
-	switch x := a.(type) {
-	case []int:
-		return slices.Clone(x)
-	case [][]int:
-		rows := make([][]int, len(x))
-		for i := range x {
-			rows[i] = slices.Clone(x[i])
+	return copyValue(reflect.ValueOf(a)).Interface()
+}
+
+func copyValue(v reflect.Value) reflect.Value {
+	kept := reflect.New(v.Type()).Elem()
+	switch v.Kind() {
+	case reflect.Slice:
+		for i := range v.Len() {
+			kept = reflect.Append(kept, copyValue(v.Index(i)))
 		}
-		return rows
+	case reflect.Struct:
+		for i := range v.NumField() {
+			kept.Field(i).Set(copyValue(v.Field(i)))
+		}
+	default:
+		kept.Set(v)
 	}
-	return a
+	return kept
 }
 
 func spoil(p []int) {
@@ -84,20 +142,35 @@ func spoil(p []int) {
 	}
 }
 
-// spoilResult overwrites all memory of a result, row by row; it reports whether
-// each row was still whole when its turn came, so that no two rows share memory.
-func spoilResult(a any) bool {
-	switch x := a.(type) {
-	case []int:
-		spoil(x)
-	case [][]int:
-		kept := copyResult(x).([][]int)
-		for i := range x {
-			if !sameList(x[i], kept[i]) {
-				return false
-			}
-			spoil(x[i])
+// listsIn returns the lists of numbers of a result, wherever they are in it.
+func listsIn(v reflect.Value) [][]int {
+	if p, ok := v.Interface().([]int); ok {
+		return [][]int{p}
+	}
+	var lists [][]int
+	switch v.Kind() {
+	case reflect.Slice:
+		for i := range v.Len() {
+			lists = append(lists, listsIn(v.Index(i))...)
 		}
+	case reflect.Struct:
+		for i := range v.NumField() {
+			lists = append(lists, listsIn(v.Field(i))...)
+		}
+	}
+	return lists
+}
+
+// spoilResult overwrites all memory of a result, list by list; it reports whether
+// each list was still whole when its turn came, so that no two share memory.
+func spoilResult(a any) bool {
+	lists := listsIn(reflect.ValueOf(a))
+	kept := copyResult(lists).([][]int)
+	for i := range lists {
+		if !sameList(lists[i], kept[i]) {
+			return false
+		}
+		spoil(lists[i])
 	}
 	return true
 }
@@ -142,5 +215,27 @@ func mustNotSucceed(t *testing.T, what string, ok bool, results ...any) {
 		if !isZeroResult(r) {
 			t.Errorf("%s: a failed call returns %v", what, r)
 		}
+	}
+}
+
+func pack[T any](result T, ok bool) (any, bool) {
+	return result, ok
+}
+
+// checkCall makes a call twice: the first result is spoiled in between, so that
+// memory that is shared or kept shows in the second one.
+func checkCall(t *testing.T, name string, call func() (any, bool)) {
+	t.Helper()
+	first, ok := call()
+	if !ok && !isZeroResult(first) {
+		t.Fatalf("%s: a failed call returns %v", name, first)
+	}
+	kept := copyResult(first)
+	if !spoilResult(first) {
+		t.Fatalf("%s: two rows of its result share memory", name)
+	}
+	second, again := call()
+	if again != ok || !sameResult(second, kept) {
+		t.Fatalf("%s: %v is %v when asked again", name, kept, second)
 	}
 }

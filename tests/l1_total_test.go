@@ -37,28 +37,6 @@ func numberCalls() map[string]func(i, j int) (any, bool) {
 	}
 }
 
-func pack[T any](result T, ok bool) (any, bool) {
-	return result, ok
-}
-
-// checkCall makes a call twice: the first result is spoiled in between, so that
-// memory that is shared or kept shows in the second one.
-func checkCall(t *testing.T, name string, call func() (any, bool)) {
-	t.Helper()
-	first, ok := call()
-	if !ok && !isZeroResult(first) {
-		t.Fatalf("%s: a failed call returns %v", name, first)
-	}
-	kept := copyResult(first)
-	if !spoilResult(first) {
-		t.Fatalf("%s: two rows of its result share memory", name)
-	}
-	second, again := call()
-	if again != ok || !sameResult(second, kept) {
-		t.Fatalf("%s: %v is %v when asked again", name, kept, second)
-	}
-}
-
 func TestPromise11ArchSystemsAreNotChanged(t *testing.T) {
 	lists := append(systemsUpTo(4), nil)
 	lists = append(lists, systemsByWords(5)[40], systemsByWords(6)[0], systemsByWords(6)[131])
