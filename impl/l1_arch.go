@@ -144,6 +144,14 @@ func systemRanked(n int, rank int) system {
 	return s
 }
 
+func rainbow(n int) system {
+	s := system{size: 2 * n}
+	for i := range n {
+		s.join(i, s.size-1-i)
+	}
+	return s
+}
+
 // shift moves all points of a line along it, round from its end to its start.
 type shift struct {
 	by   int
@@ -248,11 +256,7 @@ func RainbowOf(n int) ([]int, bool) {
 	if !isArchCount(n) {
 		return nil, false
 	}
-	s := system{size: 2 * n}
-	for i := range n {
-		s.join(i, s.size-1-i)
-	}
-	return s.list(), true
+	return rainbow(n).list(), true
 }
 
 // FlatOf returns the system all of whose arches are small.
