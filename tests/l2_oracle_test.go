@@ -10,8 +10,9 @@ import (
 // by those of Bottom.
 func pairsByWords(n int) []impl.Meander {
 	var all []impl.Meander
-	for _, top := range systemsByWords(n) {
-		for _, bottom := range systemsByWords(n) {
+	systems := systemsByWords(n)
+	for _, top := range systems {
+		for _, bottom := range systems {
 			all = append(all, impl.Meander{Top: top, Bottom: bottom})
 		}
 	}
