@@ -224,8 +224,8 @@ func TestPromise5OpenWordsAreFoldings(t *testing.T) {
 }
 
 func TestPromise5Moves(t *testing.T) {
-	words := append(wordsUpTo(6), wordsToTry()[10000:]...)
-	for _, w := range append(words, []int{11, 0, 10, 1, 9, 2, 8, 3, 7, 4, 6, 5}) {
+	zigzag := []int{11, 0, 10, 1, 9, 2, 8, 3, 7, 4, 6, 5}
+	for _, w := range append(slices.Clone(wordsToTry()), zigzag) {
 		k := len(w)
 		inverse, backwards, mirrored := make([]int, k), make([]int, k), make([]int, k)
 		for i, number := range w {
